@@ -1,0 +1,1 @@
+"""A dictionary's least automaton. The program's function is leaststates.words.answers."""
