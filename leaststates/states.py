@@ -18,6 +18,11 @@ def may_end(rests):
     return () in rests
 
 
+def rests_behind(words, row):
+    """The state to which the row of letters leads; no rests at all, if it leads to none."""
+    return tuple([word[len(row):] for word in words if word[:len(row)] == row])
+
+
 def number_states(words):
     """All states of the words (which are in order) with their numbers, the lowest number first."""
     numbers = {}

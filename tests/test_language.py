@@ -46,6 +46,21 @@ def nodes():
             yield path.name, node
 
 
+def nodes_below():
+    """Each node with those above it, the nearest last."""
+    for path in files():
+        waiting = [(ast.parse(path.read_text()), [])]
+        while waiting:
+            node, above = waiting.pop()
+            yield path.name, node, above
+            waiting += [(part, above + [node]) for part in ast.iter_child_nodes(node)]
+
+
+def own_call(node):
+    """The name by which a function is called here; None if none is."""
+    return node.func.id if isinstance(node, ast.Call) and isinstance(node.func, ast.Name) else None
+
+
 class Files(unittest.TestCase):
     def test_plain_names(self):
         for path in files():
@@ -102,7 +117,61 @@ class Forms(unittest.TestCase):
                 self.assertIsInstance(node, (ast.ImportFrom, ast.FunctionDef, ast.ClassDef, ast.Assign), path.name)
 
 
+    def test_is_beside_none_true_and_false_alone(self):
+        for name, node in nodes():
+            if isinstance(node, ast.Compare) and any(isinstance(op, (ast.Is, ast.IsNot)) for op in node.ops):
+                self.assertIsInstance(node.comparators[0], ast.Constant, name)
+
+    def test_sets_are_sorted_on_the_spot(self):
+        for name, node, above in nodes_below():
+            if own_call(node) == "set":
+                while isinstance(above[-1], ast.BinOp):
+                    above = above[:-1]
+                self.assertEqual(own_call(above[-1]), "sorted", name)
+
+    def test_what_is_walked_at_once(self):
+        for name, node, above in nodes_below():
+            if own_call(node) in ("range", "reversed", "enumerate", "zip"):
+                walked = isinstance(above[-1], (ast.For, ast.comprehension)) and above[-1].iter is node
+                self.assertTrue(walked or own_call(above[-1]) in ("list", "tuple", "sorted", "sum"), name)
+
+    def test_no_files_draw_from_one_another(self):
+        drawn = {path.stem: set() for path in files()}
+        for name, node in nodes():
+            if isinstance(node, ast.ImportFrom):
+                drawn[name[:-3]].add(node.module.split(".")[1])
+        while drawn:
+            free = [name for name in drawn if not drawn[name] & set(drawn)]
+            self.assertNotEqual(free, [], drawn)
+            drawn = {name: drawn[name] for name in drawn if name not in free}
+
+    def test_no_function_calls_itself(self):
+        calls = {}
+        for name, node in nodes():
+            if isinstance(node, ast.FunctionDef):
+                named = [part.func for part in ast.walk(node) if isinstance(part, ast.Call)]
+                calls[node.name] = {getattr(func, "id", getattr(func, "attr", None)) for func in named}
+        for first in calls:
+            reached = set(calls[first])
+            while not reached >= (further := set().union(*[calls.get(name, ()) for name in reached])):
+                reached |= further
+            self.assertNotIn(first, reached)
+
+
 class Names(unittest.TestCase):
+    def test_each_name_of_a_file_s_top_once_and_no_local_like_it(self):
+        for path in files():
+            tree = ast.parse(path.read_text())
+            top = [node.name for node in tree.body if isinstance(node, (ast.FunctionDef, ast.ClassDef))]
+            top += [node.targets[0].id for node in tree.body if isinstance(node, ast.Assign)]
+            top += [part.name for node in tree.body if isinstance(node, ast.ImportFrom) for part in node.names]
+            self.assertEqual(len(top), len(set(top)), path.name)
+            for part in [part for node in tree.body if not isinstance(node, ast.Assign) for part in ast.walk(node)]:
+                if isinstance(part, ast.arg):
+                    self.assertNotIn(part.arg, top, path.name)
+                if isinstance(part, ast.Name) and isinstance(part.ctx, ast.Store):
+                    self.assertNotIn(part.id, top, path.name)
+
     def test_python_s_own(self):
         for name, node in nodes():
             if isinstance(node, ast.Name) and hasattr(builtins, node.id):
